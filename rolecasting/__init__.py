@@ -1,0 +1,1 @@
+"""A play put on: who plays what, and in which order the pieces are rehearsed."""
