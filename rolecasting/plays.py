@@ -1,5 +1,7 @@
 """The calls on one play, read one behind another and answered."""
 
+from rolecasting.plans import best_plan, cheapest_order, checked_plan, plan_apart
+
 MOST_ROLES = 5
 MOST_DRESSING = 1000
 MOST_SCENES = 10
@@ -17,6 +19,10 @@ SCENE = 1
 PLAYER = 2
 PIECE = 3
 AHEAD = 4
+BEST = 5
+APART = 6
+CHECK = 7
+ORDER = 8
 
 
 class Scene:
@@ -173,6 +179,17 @@ def answer_ahead(play, reader):
     return [play.ahead(i, j)]
 
 
+def answer_check(play, reader):
+    casting = reader.row()
+    order = reader.row()
+    return checked_plan(play, casting, order)
+
+
+def answer_order(play, reader):
+    casting = reader.row()
+    return cheapest_order(play, casting)
+
+
 def answer_call(play, reader):
     call = reader.number()
     if call == BEGINS:
@@ -185,7 +202,15 @@ def answer_call(play, reader):
         return answer_piece(play, reader)
     if call == AHEAD:
         return answer_ahead(play, reader)
-    raise NotImplementedError(f"call {call} is not written yet")
+    if call == BEST:
+        return best_plan(play)
+    if call == APART:
+        return plan_apart(play)
+    if call == CHECK:
+        return answer_check(play, reader)
+    if call == ORDER:
+        return answer_order(play, reader)
+    raise ValueError(f"there is no call {call}")
 
 
 def answers(calls):

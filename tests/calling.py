@@ -29,8 +29,49 @@ def ahead(i, j):
     return [4, i, j]
 
 
+def best():
+    return [5]
+
+
+def apart():
+    return [6]
+
+
+def check(casting, order):
+    return [7] + row(casting) + row(order)
+
+
+def order(casting):
+    return [8] + row(casting)
+
+
 def flat(calls):
     return [number for call in calls for number in call]
+
+
+def parts(numbers):
+    """What stands one behind another, each part behind how many numbers it has."""
+    found = []
+    place = 0
+    while place < len(numbers):
+        end = place + 1 + numbers[place]
+        if numbers[place] < 0 or end > len(numbers):
+            raise AssertionError(f"not in parts: {numbers}")
+        found.append(numbers[place + 1:end])
+        place = end
+    return found
+
+
+def told(*calls):
+    """For each of these calls the number that is answered first, and the lists behind it."""
+    given = parts(answers(flat(calls)))
+    if len(given) != len(calls):
+        raise AssertionError(f"not an answer for each call: {given}")
+    return [[answer[0]] + parts(answer[1:]) for answer in given]
+
+
+def last_told(*calls):
+    return told(*calls)[-1]
 
 
 def asked(*calls):
